@@ -74,7 +74,7 @@ func (m *Machine) do(n int) (api.Seen, bool) {
 	c.told = m.kernel.Do(n, m.program[c.call])
 	for _, l := range c.told.Forget {
 		c.Drop(l.Space, l.Page)
-		// Whoever holds the lock was heard by all before, so that its first messages have room.
+		// Who held the lock before was heard before it left, so that the boxes are empty ahead of these, and 64 of them have room.
 		m.boxes.All(n, forget, l.Space*spacePages+l.Page)
 	}
 	c.does = api.Waiting
